@@ -149,6 +149,14 @@ func (r Rect) bottom() int {
 	return r.Y + r.H
 }
 
+// size returns the height of the rectangle, or its width.
+func (r Rect) size(down bool) int {
+	if down {
+		return r.H
+	}
+	return r.W
+}
+
 // has reports whether the rectangle has a point.
 func (r Rect) has(x int, y int) bool {
 	return r.X <= x && x < r.right() && r.Y <= y && y < r.bottom()
