@@ -55,7 +55,7 @@ func CoverRects(a Rect, b Rect) (Rect, bool) {
 	if !ValidRect(a) || !ValidRect(b) {
 		return Rect{}, false
 	}
-	return ifValid(a.cover(b))
+	return ifValid(a.cover(b), ValidRect)
 }
 
 // InsideRect reports whether a rectangle lies in another one.
@@ -68,7 +68,7 @@ func MoveRect(r Rect, dx int, dy int) (Rect, bool) {
 	if !ValidRect(r) || !within(dx, -MaxCoord, MaxCoord) || !within(dy, -MaxCoord, MaxCoord) {
 		return Rect{}, false
 	}
-	return ifValid(r.moved(dx, dy))
+	return ifValid(r.moved(dx, dy), ValidRect)
 }
 
 // InsetRect returns a rectangle that is smaller at all sides.
@@ -124,12 +124,13 @@ func validAnchor(anchor int) bool {
 	return within(anchor, 0, lastAnchor)
 }
 
-// ifValid returns a rectangle and true, but only if it is valid.
-func ifValid(r Rect) (Rect, bool) {
-	if !ValidRect(r) {
-		return Rect{}, false
+// ifValid returns something and true, but only if it is valid.
+func ifValid[E any](e E, valid func(E) bool) (E, bool) {
+	if !valid(e) {
+		var none E
+		return none, false
 	}
-	return r, true
+	return e, true
 }
 
 // fromCorners returns the rectangle from one corner to the opposite one, which is just outside.
