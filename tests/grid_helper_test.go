@@ -320,7 +320,7 @@ func eachGrid(do func(g impl.Grid, w, h int)) {
 	}
 }
 
-// The functions below say what the document says, with the functions of chapter 1, as directly as they can.
+// The functions below say what the document says, also of more and greater cells than it allows, as directly as they can.
 
 // wantParts returns the parts of a number by weights.
 func wantParts(n int, weights []int) []int {
@@ -420,7 +420,7 @@ func wantCells(g impl.Grid, w, h int) []impl.Rect {
 	var rects []impl.Rect
 	for _, c := range g.Cells {
 		lines := rect(sumOf(cols[:c.Col]), sumOf(rows[:c.Row]), sumOf(cols[c.Col:c.Col+c.ManyCols]), sumOf(rows[c.Row:c.Row+c.ManyRows]))
-		in := impl.InsetRect(lines, c.PadX, c.PadY)
+		in := wantInset(lines, c.PadX, c.PadY)
 		x := wantStretch(stretch{in.X, in.W}, c.W, c.Stick&1 > 0, c.Stick&2 > 0)
 		y := wantStretch(stretch{in.Y, in.H}, c.H, c.Stick&4 > 0, c.Stick&8 > 0)
 		rects = append(rects, rect(x.at, y.at, x.size, y.size))

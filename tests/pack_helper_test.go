@@ -180,7 +180,7 @@ func eachPacking(do func(list []impl.Pack, w, h int)) {
 	}
 }
 
-// The functions below say what the document says, with the functions of chapter 1, as directly as they can.
+// The functions below say what the document says, also of more and greater items than it allows, as directly as they can.
 
 // wantRequest returns the size that items need.
 func wantRequest(list []impl.Pack) (int, int) {
@@ -224,7 +224,7 @@ func wantParcels(list []impl.Pack, w, h int) ([]impl.Rect, impl.Rect) {
 		if p.Expand {
 			n += wantShare(list[i:], along(down, left.W, left.H), down)
 		}
-		piece, rest := impl.CutRect(left, p.Side, n)
+		piece, rest := wantCut(left, p.Side, n)
 		parcels, left = append(parcels, piece), rest
 	}
 	return parcels, left
@@ -232,7 +232,7 @@ func wantParcels(list []impl.Pack, w, h int) ([]impl.Rect, impl.Rect) {
 
 // wantRect returns the rectangle of an item in its parcel.
 func wantRect(p impl.Pack, parcel impl.Rect) impl.Rect {
-	inner := impl.InsetRect(parcel, p.PadX, p.PadY)
+	inner := wantInset(parcel, p.PadX, p.PadY)
 	w, h := p.W, p.H
 	if p.FillX {
 		w = inner.W
@@ -240,5 +240,5 @@ func wantRect(p impl.Pack, parcel impl.Rect) impl.Rect {
 	if p.FillY {
 		h = inner.H
 	}
-	return impl.AnchorRect(inner, w, h, p.Anchor)
+	return wantAnchored(inner, w, h, p.Anchor)
 }

@@ -102,3 +102,31 @@ func common(a, b map[[2]int]bool) map[[2]int]bool {
 func liesIn(outer, inner impl.Rect) bool {
 	return inner.X >= outer.X && inner.Y >= outer.Y && inner.X+inner.W <= outer.X+outer.W && inner.Y+inner.H <= outer.Y+outer.H
 }
+
+// The functions below say what the document says of rectangles that are as great as they are, also beyond the limits.
+
+// wantCut returns the piece of a rectangle at a side, and the rest.
+func wantCut(r impl.Rect, side, n int) (impl.Rect, impl.Rect) {
+	wide, high := min(n, r.W), min(n, r.H)
+	switch side {
+	case impl.SdTop:
+		return rect(r.X, r.Y, r.W, high), rect(r.X, r.Y+high, r.W, r.H-high)
+	case impl.SdBottom:
+		return rect(r.X, r.Y+r.H-high, r.W, high), rect(r.X, r.Y, r.W, r.H-high)
+	case impl.SdLeft:
+		return rect(r.X, r.Y, wide, r.H), rect(r.X+wide, r.Y, r.W-wide, r.H)
+	}
+	return rect(r.X+r.W-wide, r.Y, wide, r.H), rect(r.X, r.Y, r.W-wide, r.H)
+}
+
+// wantInset returns a rectangle that is smaller at all sides.
+func wantInset(r impl.Rect, px, py int) impl.Rect {
+	return rect(r.X+min(px, r.W/2), r.Y+min(py, r.H/2), max(r.W-px-px, 0), max(r.H-py-py, 0))
+}
+
+// wantAnchored returns a rectangle of a size in another one.
+func wantAnchored(r impl.Rect, w, h, anchor int) impl.Rect {
+	w, h = min(w, r.W), min(h, r.H)
+	across, down := r.W-w, r.H-h
+	return rect(r.X+[]int{0, across / 2, across}[anchor%3], r.Y+[]int{0, down / 2, down}[anchor/3], w, h)
+}
