@@ -104,6 +104,46 @@ func TestPromise40AskingIsRemembered(t *testing.T) {
 	})
 }
 
+// isBarrier reports whether a node asks for the same whatever its kids ask for.
+func isBarrier(n impl.Node) bool {
+	return n.Keep || n.Kind == impl.KdPlace
+}
+
+func TestPromise41AskingGoesUp(t *testing.T) {
+	alone, farther, stopped := 0, 0, 0
+	eachAsking(goodTrees(), func(tr impl.Tree, i, w, h int) {
+		touched, way := impl.TouchedBy(tr, i, w, h), impl.WayUp(tr, i)
+		if len(touched) > len(way) {
+			t.Fatalf("TouchedBy(%+v, %d, %d, %d) = %v, but WayUp is %v", tr, i, w, h, touched, way)
+		}
+		// Those further up have lesser indices.
+		up := slices.Clone(touched)
+		slices.Reverse(up)
+		if !slices.Equal(up, way[:len(up)]) {
+			t.Errorf("TouchedBy(%+v, %d, %d, %d) = %v, which is no beginning of WayUp, %v", tr, i, w, h, touched, way)
+		}
+		if len(up) == 0 {
+			return
+		}
+		for _, n := range up[1:] {
+			if isBarrier(tr.Nodes[n]) {
+				t.Errorf("TouchedBy(%+v, %d, %d, %d) = %v, but %d keeps its size or places its kids", tr, i, w, h, touched, n)
+			}
+		}
+		if len(up) == 1 {
+			alone++
+		} else {
+			farther++
+		}
+		if len(up) < len(way) && isBarrier(tr.Nodes[way[len(up)]]) {
+			stopped++
+		}
+	})
+	if alone == 0 || farther == 0 || stopped == 0 {
+		t.Errorf("%d times only the node is touched, %d times others are, and %d times one stops it", alone, farther, stopped)
+	}
+}
+
 func TestPromise42WhatIsNotTouchedStays(t *testing.T) {
 	untouched, moving := 0, 0
 	eachAsking(goodTrees(), func(tr impl.Tree, i, w, h int) {
